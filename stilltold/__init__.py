@@ -1,0 +1,1 @@
+"""Stilltold: programs that choose among numbers, and what can still be told."""
