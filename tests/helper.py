@@ -125,3 +125,95 @@ def chosen_by_counting(choice, held, came, none=()):
         return {"none": lambda: none, "cell": lambda: held[choice[1]], "came": lambda: came[choice[1]]}[word]()
     things = [chosen_by_counting(part, held, came, none) for part in choice[-1]]
     return kth_by_counting(things, {"greatest": 1, "least": len(things)}.get(word, choice[1]))
+
+
+def bare_program(cells, deeds, modes):
+    """A program of so many modes that keeps its cells and tells nothing."""
+    return (cells, deeds, tuple(tuple((0, (None,) * len(cells), None) for deed in deeds) for mode in range(modes)))
+
+
+TOP = ("cell", "top")
+FIRST, SECOND = ("came", 0), ("came", 1)
+
+# Tells the greatest that ever came; a deed is called like the cell.
+GREATEST = (("top",), (("top", 1), ("ask", 0)),
+            (((0, (("greatest", (TOP, FIRST)),), None), (0, (None,), TOP)),))
+
+# Holds the last three, tells their middle one, and at each deed what was let go.
+MIDDLE = (("a", "b", "c"), (("push", 1), ("ask", 0)),
+          (((0, (FIRST, ("cell", "a"), ("cell", "b")), ("cell", "c")),
+            (0, (None, None, None), ("kth", 2, (("cell", "a"), ("cell", "b"), ("cell", "c"))))),))
+
+# Puts a pair, turns it about, and in another mode holds the lesser ones.
+PAIR = (("a", "b"), (("put", 2), ("turn", 0), ("one", 1)),
+        (((0, (FIRST, SECOND), ("greatest", (FIRST, SECOND))),
+          (1, (("cell", "b"), ("cell", "a")), None),
+          (0, (("least", (("cell", "a"), FIRST)), None), ("none",))),
+         ((1, (("least", (FIRST, SECOND)), ("least", (("cell", "b"), SECOND))), None),
+          (0, (("cell", "b"), ("cell", "a")), ("cell", "a")),
+          (0, (None, ("none",)), ("kth", 3, (("cell", "a"), FIRST, ("cell", "b")))))))
+
+NOTHING = ((), (("ask", 0),), (((0, (), None),),))
+ECHO = ((), (("say", 2),), (((1, (), FIRST),), ((0, (), SECOND),)))
+
+PROGRAMS = (GREATEST, MIDDLE, PAIR, NOTHING, ECHO)
+
+
+def any_choice(chance, cells, many, depth):
+    """A choice by chance, of depth at most so much."""
+    leaves = [("none",)] + [("cell", cell) for cell in cells] * 2 + [("came", n) for n in range(many)] * 2
+    if depth < 2 or chance.random() < 0.4:
+        return chance.choice(leaves)
+    parts = tuple(any_choice(chance, cells, many, depth - 1) for at in range(chance.randint(1, 3)))
+    word = chance.choice(("kth", "greatest", "least"))
+    return (word, chance.randint(1, len(parts)), parts) if word == "kth" else (word, parts)
+
+
+def any_program(chance):
+    """A program by chance, with few cells and modes."""
+    cells = tuple("abcd"[:chance.randint(0, 4)])
+    deeds = tuple((name, chance.randint(0, 2)) for name in "xayz"[:chance.randint(1, 4)])
+    modes = chance.randint(1, 3)
+
+    def rule(many):
+        becomes = tuple(chance.choice((None, any_choice(chance, cells, many, 4))) for cell in cells)
+        tells = None if chance.random() < 0.2 else any_choice(chance, cells, many, 4)
+        return (chance.randrange(modes), becomes, tells)
+
+    return (cells, deeds, tuple(tuple(rule(many) for name, many in deeds) for mode in range(modes)))
+
+
+def any_guard(chance, deeds):
+    """A guard by chance, which lets at least one deed at each place."""
+    places = chance.randint(1, 4)
+    rows = [[chance.choice((None, chance.randrange(places))) for deed in deeds] for place in range(places)]
+    for row in rows:
+        row[chance.randrange(len(row))] = chance.randrange(places)
+    return tuple(tuple(row) for row in rows)
+
+
+def any_history(chance, program, many, guard=None, numbers=range(-3, 4)):
+    """A history by chance that the guard lets."""
+    history, place = [], 0
+    for step in range(many):
+        let = [at for at in range(len(program[1])) if guard is None or guard[place][at] is not None]
+        at = chance.choice(let)
+        name, brings = program[1][at]
+        history.append((name,) + tuple(chance.choice(numbers) for number in range(brings)))
+        place = 0 if guard is None else guard[place][at]
+    return tuple(history)
+
+
+def worked(program, history):
+    """Of each deed (answer, mode, held), told by the document's words over dicts."""
+    cells, deeds, modes = program
+    mode, held, rows = 0, {cell: () for cell in cells}, []
+    for at, (called, *numbers) in enumerate(history):
+        after, becomes, tells = modes[mode][[deed[0] for deed in deeds].index(called)]
+        came = [(number, at, place) for place, number in enumerate(numbers)]
+        answer = None if tells is None else chosen_by_counting(tells, held, came)
+        held = {cell: held[cell] if choice is None else chosen_by_counting(choice, held, came)
+                for cell, choice in zip(cells, becomes)}
+        mode = after
+        rows.append((answer, mode, tuple(held[cell] for cell in cells)))
+    return rows
