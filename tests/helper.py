@@ -153,6 +153,9 @@ PAIR = (("a", "b"), (("put", 2), ("turn", 0), ("one", 1)),
           (0, (("cell", "b"), ("cell", "a")), ("cell", "a")),
           (0, (None, ("none",)), ("kth", 3, (("cell", "a"), FIRST, ("cell", "b")))))))
 
+# A guard of PAIR: put is let once, then turn as often as one likes, then one, and nothing behind it.
+ORDER = ((1, None, None), (None, 1, 2), (None, None, None))
+
 NOTHING = ((), (("ask", 0),), (((0, (), None),),))
 ECHO = ((), (("say", 2),), (((1, (), FIRST),), ((0, (), SECOND),)))
 

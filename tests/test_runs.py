@@ -4,11 +4,9 @@ import unittest
 
 from stilltold.errors import NoDeed
 from stilltold.runs import Run, is_history, told
-from tests.helper import (ANYTHING, ECHO, GREATEST, HUGE, MIDDLE, NOTHING, PAIR, PROGRAMS, Judges, any_guard,
-                          any_history, any_program, kept_as_is, nearly, whole, worked)
+from tests.helper import (ANYTHING, ECHO, GREATEST, HUGE, MIDDLE, NOTHING, ORDER, PAIR, PROGRAMS, Judges,
+                          any_guard, any_history, any_program, kept_as_is, nearly, whole, worked)
 
-# put is let once, then turn as often as one likes, then one, and nothing behind it.
-ORDER = ((1, None, None), (None, 1, 2), (None, None, None))
 NO_DEEDS = (("put", 1), ("put",), ("put", 1, 2, 3), ("turn", 1), ("turn", None), ("one",), ("one", 1, 1), ("two", 1),
             ("Put", 1, 2), ("", 1), (), ("put", 1, True), ("put", False, 1), ("one", True), ("one", "1"), ("one", None),
             ("one", (1,)), ("one", [1]), ("one", {}), ["one", 1], ["turn"], "turn", "one", ("turn", ()), (("turn",),),

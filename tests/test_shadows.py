@@ -4,10 +4,8 @@ import unittest
 
 from stilltold.errors import NoDeed, NotLet
 from stilltold.shadows import bit_deeds, cast, first_shadow, is_shadow, under
-from tests.helper import (ANYTHING, ECHO, GREATEST, HUGE, MIDDLE, NOTHING, PAIR, PROGRAMS, Judges, any_guard,
-                          any_program, bare_program, chosen_by_counting, kept_as_is, nearly, whole)
-
-ORDER = ((1, None, None), (None, 1, 2), (None, None, None))
+from tests.helper import (ANYTHING, ECHO, GREATEST, HUGE, MIDDLE, NOTHING, ORDER, PAIR, PROGRAMS, Judges,
+                          any_guard, any_program, bare_program, chosen_by_counting, kept_as_is, nearly, whole)
 
 
 def judged_shadow(program, thing, places):
