@@ -1,6 +1,7 @@
 """Programs: cells, deeds, and the rules by which a deed is done."""
 
 from stilltold.choices import is_choice, picked
+from stilltold.errors import NoPair
 from stilltold.plain import are_unlike_names, is_row, is_within
 
 MOST_CELLS = 6
@@ -48,6 +49,12 @@ def is_rule(cells, many, modes, thing):
     if not is_within(after, 0, modes - 1) or not is_row(becomes, len(cells), len(cells)):
         return False
     return all([choice is None or is_choice(cells, many, choice) for choice in (*becomes, tells)])
+
+
+def need_same_deeds(one, other):
+    """Refuse two programs that have not the same deeds in the same order."""
+    if one[1] != other[1]:
+        raise NoPair()
 
 
 def deed_number(program, thing, fits):

@@ -1,6 +1,6 @@
 """Histories, and programs at work."""
 
-from stilltold.errors import NoDeed
+from stilltold.errors import NoDeed, NotLet
 from stilltold.guards import guard_or_free
 from stilltold.plain import is_whole
 from stilltold.programs import deed_number, done
@@ -30,6 +30,33 @@ def told(program, history):
     return tuple([run.do(deed) for deed in history])
 
 
+def ended(program, history, guard):
+    """(the guard's place, the Run) at the end of the history, which is refused where it is none or isn't let."""
+    if not isinstance(history, tuple):
+        raise NoDeed(history)
+    run = Run(program)
+    for deed in history:
+        run.do(deed)
+    # Only now, for a deed that is none is refused ahead of one that isn't let.
+    places = guard_or_free(program, guard)
+    place = 0
+    for deed in history:
+        place = places[place][deed_number(program, deed, is_whole)]
+        if place is None:
+            raise NotLet(deed)
+    return place, run
+
+
+def notes_of(deed, at):
+    """The notes that the deed brings, done as the at-th."""
+    return tuple([(number, at, place) for place, number in enumerate(deed[1:])])
+
+
+def notes_that_came(history):
+    """The notes of all deeds of the history, rising."""
+    return sorted([note for at, deed in enumerate(history) for note in notes_of(deed, at)])
+
+
 class Run:
     """A program at work: its mode, what its cells hold, how many deeds were done."""
 
@@ -44,7 +71,7 @@ class Run:
         number = deed_number(self.plan, deed, is_whole)
         if number is None:
             raise NoDeed(deed)
-        came = tuple([(part, self.ahead, place) for place, part in enumerate(deed[1:])])
+        came = notes_of(deed, self.ahead)
         answer, self.phase, self.cells = done(self.plan, self.phase, number, self.cells, came, ())
         self.ahead += 1
         return answer

@@ -32,20 +32,36 @@ def cast(program, shadow, deed, *, guard=None):
     number = deed_number(program, deed, is_bit)
     if number is None:
         raise NoDeed(deed)
-    place, mode, bits = shadow
-    behind = guard_or_free(program, guard)[place][number]
-    if behind is None:
+    move = moved(program, guard_or_free(program, guard), shadow, number, deed[1:])
+    if move is None:
         raise NotLet(deed)
-    answer, after, then = done(program, mode, number, bits, deed[1:], 0)
+    return move
+
+
+def moved(program, places, shadow, number, came):
+    """(answer, shadow behind) of the deed of this number with these bits; None where the place doesn't let it."""
+    place, mode, bits = shadow
+    behind = places[place][number]
+    if behind is None:
+        return None
+    answer, after, then = done(program, mode, number, bits, came, 0)
     return answer, (behind, after, then)
 
 
 def bit_deeds(program):
     """All bit deeds, rising."""
-    rows = []
-    for name, many in program[1]:
-        longer = [(name,)]
-        for place in range(many):
-            longer = [(*deed, bit) for deed in longer for bit in (0, 1)]
-        rows.extend(longer)
-    return tuple(sorted(rows))
+    return tuple(sorted([(name, *bits) for name, many in program[1] for bits in bit_rows(many)]))
+
+
+def bit_rows(many):
+    """All rows of so many bits, rising."""
+    rows = [()]
+    for place in range(many):
+        rows = [(*row, bit) for row in rows for bit in (0, 1)]
+    return rows
+
+
+def shadows_between(place, mode, held, notes):
+    """The shadows under the bars between neighbours of these rising notes, the first up to the least of them."""
+    # Above all notes that came no cell holds a 1, so that the last one needs no bar.
+    return [(place, mode, under(held, bar)) for bar in notes] + [(place, mode, (0,) * len(held))]

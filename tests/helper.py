@@ -1,6 +1,7 @@
 """What the tests share: things of any kind, things that are nearly right, and a second judge of choices."""
 
 import copy
+import itertools
 import re
 
 HUGE = int("9" * 60)
@@ -161,6 +162,25 @@ ECHO = ((), (("say", 2),), (((1, (), FIRST),), ((0, (), SECOND),)))
 
 PROGRAMS = (GREATEST, MIDDLE, PAIR, NOTHING, ECHO)
 
+# Tells the second greatest of the greatest that ever came, and forgets all at once by another deed.
+SECONDS = (("hi", "lo"), (("push", 1), ("ask", 0), ("clear", 0)),
+           (((0, (("greatest", (("cell", "hi"), FIRST)),
+                  ("kth", 2, (("cell", "hi"), ("cell", "lo"), FIRST))), None),
+             (0, (None, None), ("cell", "lo")),
+             (0, (("none",), ("none",)), None)),))
+
+# A guard of SECONDS: two pushes, then ask as often as one likes, then clear, and all begins again.
+TURNS = ((1, None, None), (2, None, None), (None, 2, 0))
+
+# A guard of SECONDS whose places 1 and 2 let the same.
+TWINS = ((2, 1, None), (None, 2, 0), (None, 1, 0))
+
+# Holds what came first, and behind it nothing more; tells it at the fourth deed.
+PATIENT = (("a",), (("go", 1),),
+           (((1, (FIRST,), None),), ((2, (None,), None),), ((3, (None,), None),), ((3, (None,), ("cell", "a")),)))
+
+JUDGED = PROGRAMS + (SECONDS, PATIENT)
+
 
 def any_choice(chance, cells, many, depth):
     """A choice by chance, of depth at most so much."""
@@ -172,10 +192,14 @@ def any_choice(chance, cells, many, depth):
     return (word, chance.randint(1, len(parts)), parts) if word == "kth" else (word, parts)
 
 
-def any_program(chance):
+def any_deeds(chance, most=4):
+    return tuple((name, chance.randint(0, 2)) for name in "xayz"[:chance.randint(1, most)])
+
+
+def any_program(chance, deeds=None, most_cells=4):
     """A program by chance, with few cells and modes."""
-    cells = tuple("abcd"[:chance.randint(0, 4)])
-    deeds = tuple((name, chance.randint(0, 2)) for name in "xayz"[:chance.randint(1, 4)])
+    cells = tuple("abcd"[:chance.randint(0, most_cells)])
+    deeds = any_deeds(chance) if deeds is None else deeds
     modes = chance.randint(1, 3)
 
     def rule(many):
@@ -220,3 +244,232 @@ def worked(program, history):
         mode = after
         rows.append((answer, mode, tuple(held[cell] for cell in cells)))
     return rows
+
+
+def renamed(choice, names):
+    """The choice with other names of cells."""
+    if choice is None or choice[0] in ("none", "came"):
+        return choice
+    if choice[0] == "cell":
+        return ("cell", names[choice[1]])
+    return choice[:-1] + (tuple(renamed(part, names) for part in choice[-1]),)
+
+
+def turned_about(program):
+    """A program that tells the same: its cells the other way round and called otherwise."""
+    cells, deeds, modes = program
+    names = {cell: new for cell, new in zip(cells, "pqrstu")}
+
+    def rule(after, becomes, tells):
+        return (after, tuple(renamed(choice, names) for choice in becomes[::-1]), renamed(tells, names))
+
+    return (tuple(names[cell] for cell in cells[::-1]), deeds,
+            tuple(tuple(rule(*old) for old in mode) for mode in modes))
+
+
+def with_idle_cell(program):
+    """A program that tells the same: it has one more cell, ahead of the others, which nothing ever asks."""
+    cells, deeds, modes = program
+
+    def rule(many, after, becomes, tells):
+        return (after, (("came", 0) if many else None,) + becomes, tells)
+
+    return (("idle",) + cells, deeds,
+            tuple(tuple(rule(many, *old) for (called, many), old in zip(deeds, mode)) for mode in modes))
+
+
+def with_modes_twice(program):
+    """A program that tells the same: each mode stands twice, and each deed goes over to the other half."""
+    cells, deeds, modes = program
+
+    def half(shift):
+        return tuple(tuple((after + shift, becomes, tells) for after, becomes, tells in mode) for mode in modes)
+
+    return (cells, deeds, half(len(modes)) + half(0))
+
+
+def other_deeds():
+    """Pairs of programs whose deeds are others: by a name, a number, the order, fewer of them, more of them."""
+    deeds = (("x", 1), ("y", 0))
+    others = ((("x", 1), ("z", 0)), (("x", 1), ("y", 1)), (("x", 2), ("y", 0)), (("y", 0), ("x", 1)), (("x", 1),),
+              (("y", 0),), (("x", 1), ("y", 0), ("z", 0)), (("z", 0), ("x", 1), ("y", 0)))
+    pairs = [(bare_program(("a",), deeds, 1), bare_program(("a",), other, 1)) for other in others]
+    return pairs + [pair[::-1] for pair in pairs] + [(MIDDLE, SECONDS), (PAIR, ECHO)]
+
+
+def same_telling(program):
+    """Programs that tell the same as this one."""
+    return [program, turned_about(program), with_idle_cell(program), with_modes_twice(program)]
+
+
+def notes_of(history):
+    return [(number, at, place) for at, deed in enumerate(history) for place, number in enumerate(deed[1:])]
+
+
+def all_shadows(program, places):
+    rows = itertools.product((0, 1), repeat=len(program[0]))
+    return list(itertools.product(range(places), range(len(program[2])), rows))
+
+
+def cast_by_counting(program, shadow, deed, guard):
+    """What cast tells, by the document's words over dicts; the name of the refusal where it is refused."""
+    cells, deeds, modes = program
+    place, mode, bits = shadow
+    number = [called for called, many in deeds].index(deed[0])
+    behind = 0 if guard is None else guard[place][number]
+    if behind is None:
+        return "NotLet"
+    after, becomes, tells = modes[mode][number]
+    held = dict(zip(cells, bits))
+    answer = None if tells is None else chosen_by_counting(tells, held, deed[1:], 0)
+    then = [held[cell] if choice is None else chosen_by_counting(choice, held, deed[1:], 0)
+            for cell, choice in zip(cells, becomes)]
+    return answer, (behind, after, tuple(then))
+
+
+def judged_shadow(program, thing, places):
+    return (type(thing) is tuple and len(thing) == 3
+            and whole(thing[0]) and thing[0] in range(places)
+            and whole(thing[1]) and thing[1] in range(len(program[2]))
+            and type(thing[2]) is tuple and len(thing[2]) == len(program[0])
+            and all(whole(bit) and bit in (0, 1) for bit in thing[2]))
+
+
+def bit_deeds_by_product(program):
+    return sorted((called,) + bits for called, many in program[1] for bits in itertools.product((0, 1), repeat=many))
+
+
+class Plain:
+    """Two programs and a guard gone through plainly: all their shadows, and which of these are like."""
+
+    def __init__(self, one, other, guard=None):
+        self.one, self.other, self.guard = one, other, guard
+        self.places = 1 if guard is None else len(guard)
+        self.deeds = bit_deeds_by_product(one)
+        self.moves = [{shadow: [cast_by_counting(program, shadow, deed, guard) for deed in self.deeds]
+                       for shadow in all_shadows(program, self.places)} for program in (one, other)]
+        self.like = self.like_pairs()
+
+    def agree(self, shadow, its, among):
+        """Whether no deed tells the two apart at once or leads out of these pairs."""
+        for move, answering in zip(self.moves[0][shadow], self.moves[1][its]):
+            if "NotLet" in (move, answering):
+                if move != answering:
+                    return False
+            elif move[0] != answering[0] or (among is not None and (move[1], answering[1]) not in among):
+                return False
+        return True
+
+    def like_pairs(self):
+        pairs = {(shadow, its) for shadow in self.moves[0] for its in self.moves[1] if self.agree(shadow, its, None)}
+        while True:
+            kept = {(shadow, its) for shadow, its in pairs if self.agree(shadow, its, pairs)}
+            if kept == pairs:
+                return pairs
+            pairs = kept
+
+    def parts(self, shadow, its, row):
+        """Whether the row parts the two by its last deed, and not sooner."""
+        for at, deed in enumerate(row):
+            number = self.deeds.index(deed)
+            move, answering = self.moves[0][shadow][number], self.moves[1][its][number]
+            last = at == len(row) - 1
+            if "NotLet" in (move, answering):
+                return last and move != answering
+            if move[0] != answering[0]:
+                return last
+            shadow, its = move[1], answering[1]
+        return False
+
+    def first_parting(self, shadow, its, most):
+        """The first row, of at most so many deeds, that parts the two."""
+        for many in range(1, most + 1):
+            for row in itertools.product(self.deeds, repeat=many):
+                if self.parts(shadow, its, row):
+                    return row
+        return None
+
+    def led_to(self, pair):
+        """All pairs to which bit deeds lead from this one, rising."""
+        found, left = {pair}, [pair]
+        while left:
+            shadow, its = left.pop()
+            for move, answering in zip(self.moves[0][shadow], self.moves[1][its]):
+                if move != "NotLet" and (move[1], answering[1]) not in found:
+                    found.add((move[1], answering[1]))
+                    left.append((move[1], answering[1]))
+        return tuple(sorted(found))
+
+    def least_like(self, shadow):
+        """The least shadow of the other that is like this one of the one."""
+        return min(its for its in self.moves[1] if (shadow, its) in self.like)
+
+    def is_table(self, thing):
+        """Whether it is a table, by the document's words."""
+        if type(thing) is not tuple:
+            return False
+        for pair in thing:
+            if type(pair) is not tuple or len(pair) != 2:
+                return False
+            if not (judged_shadow(self.one, pair[0], self.places) and judged_shadow(self.other, pair[1], self.places)):
+                return False
+        return list(thing) == sorted(set(thing)) and all(self.agree(shadow, its, set(thing)) for shadow, its in thing)
+
+
+def end_of(program, history, guard=None):
+    """(place, mode, held) behind the history, by the document's words."""
+    place = 0
+    for called, *numbers in history:
+        place = 0 if guard is None else guard[place][[deed[0] for deed in program[1]].index(called)]
+    rows = worked(program, history)
+    answer, mode, held = rows[-1] if rows else (None, 0, ((),) * len(program[0]))
+    return place, mode, held
+
+
+def shadow_at(end, bar):
+    """The shadow of (place, mode, held) under the bar; of None above all notes."""
+    place, mode, held = end
+    return (place, mode, tuple(int(bar is not None and note != () and note >= bar) for note in held))
+
+
+def stair_by_words(plain, history):
+    """The stair behind the history, gap by gap; of a plain going through of the program with itself."""
+    end = end_of(plain.one, history, plain.guard)
+    notes = sorted(notes_of(history))
+    shadows, kept = [], []
+    for bar in notes + [None]:
+        shadow = plain.least_like(shadow_at(end, bar))
+        if shadows and shadows[-1] == shadow:
+            kept.pop()
+        else:
+            shadows.append(shadow)
+        kept.append(bar)
+    return tuple(shadows), tuple(kept[:-1])
+
+
+def low_and_high(notes):
+    """The two numbers of goings on: below all these notes, and above them all."""
+    numbers = [number for number, at, place in notes]
+    return (min(numbers) - 1, max(numbers) + 1) if numbers else (0, 1)
+
+
+def goings_on(program, place, many, numbers, guard=None):
+    """All goings on of so many deeds by these rising numbers that the guard lets from the place, rising."""
+    deeds = sorted((called,) + row for called, brings in program[1]
+                   for row in itertools.product(numbers, repeat=brings))
+    order = [called for called, brings in program[1]]
+    rows = [((), place)]
+    for step in range(many):
+        rows = [(row + (deed,), 0 if guard is None else guard[behind][order.index(deed[0])])
+                for row, behind in rows for deed in deeds
+                if guard is None or guard[behind][order.index(deed[0])] is not None]
+    return [row for row, behind in rows]
+
+
+def first_going_on(program, place, most, numbers, fits, guard=None):
+    """The first going on, of at most so many deeds, that fits."""
+    for many in range(1, most + 1):
+        for row in goings_on(program, place, many, numbers, guard):
+            if fits(row):
+                return row
+    return None

@@ -6,11 +6,7 @@ import unittest
 
 from stilltold.runs import Run, is_history
 from stilltold.shadows import cast, first_shadow, under
-from tests.helper import PAIR, PROGRAMS, any_guard, any_history, any_program
-
-
-def notes_of(history):
-    return [(number, at, place) for at, deed in enumerate(history) for place, number in enumerate(deed[1:])]
+from tests.helper import PAIR, PROGRAMS, any_guard, any_history, any_program, notes_of
 
 
 class Bars(unittest.TestCase):

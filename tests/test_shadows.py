@@ -5,36 +5,8 @@ import unittest
 from stilltold.errors import NoDeed, NotLet
 from stilltold.shadows import bit_deeds, cast, first_shadow, is_shadow, under
 from tests.helper import (ANYTHING, ECHO, GREATEST, HUGE, MIDDLE, NOTHING, ORDER, PAIR, PROGRAMS, Judges,
-                          any_guard, any_program, bare_program, chosen_by_counting, kept_as_is, nearly, whole)
-
-
-def judged_shadow(program, thing, places):
-    return (type(thing) is tuple and len(thing) == 3
-            and whole(thing[0]) and thing[0] in range(places)
-            and whole(thing[1]) and thing[1] in range(len(program[2]))
-            and type(thing[2]) is tuple and len(thing[2]) == len(program[0])
-            and all(whole(bit) and bit in (0, 1) for bit in thing[2]))
-
-
-def all_shadows(program, places):
-    rows = itertools.product((0, 1), repeat=len(program[0]))
-    return list(itertools.product(range(places), range(len(program[2])), rows))
-
-
-def cast_by_counting(program, shadow, deed, guard):
-    """What cast tells, by the document's words over dicts; the name of the refusal where it is refused."""
-    cells, deeds, modes = program
-    place, mode, bits = shadow
-    number = [called for called, many in deeds].index(deed[0])
-    behind = 0 if guard is None else guard[place][number]
-    if behind is None:
-        return "NotLet"
-    after, becomes, tells = modes[mode][number]
-    held = dict(zip(cells, bits))
-    answer = None if tells is None else chosen_by_counting(tells, held, deed[1:], 0)
-    then = [held[cell] if choice is None else chosen_by_counting(choice, held, deed[1:], 0)
-            for cell, choice in zip(cells, becomes)]
-    return answer, (behind, after, tuple(then))
+                          all_shadows, any_guard, any_program, bare_program, cast_by_counting, judged_shadow,
+                          kept_as_is, nearly, whole)
 
 
 class Under(unittest.TestCase):
