@@ -15,7 +15,7 @@ def table(one, shadow, other, its, *, guard=None):
     """The least table that has this pair; None where the two shadows aren't like."""
     need_same_deeds(one, other)
     row, pairs = gone_through(Machine(one, guard), Machine(other, guard), (shadow, its))
-    return tuple(pairs) if row is None else None
+    return tuple(sorted(pairs)) if row is None else None
 
 
 def least_like(program, shadow, *, guard=None):
@@ -24,7 +24,7 @@ def least_like(program, shadow, *, guard=None):
 
 
 def gone_through(one, other, pair):
-    """(the least row that parts the pair, or None; the pairs come to, rising), of two machines."""
+    """(the least row that parts the pair, or None; the pairs come to by then), of two machines."""
     seen = {pair: True}
     level = [((), pair)]
     # Level by level and deed by deed as they rise, so that the first row found is the least.
@@ -33,9 +33,9 @@ def gone_through(one, other, pair):
         for row, (shadow, its) in level:
             for deed, move, answering in zip(one.deeds, one.moves(shadow), other.moves(its)):
                 if are_parted(move, answering):
-                    return (*row, deed), sorted(seen)
+                    return (*row, deed), seen
                 if move is not None and (move[1], answering[1]) not in seen:
                     seen[move[1], answering[1]] = True
                     deeper.append(((*row, deed), (move[1], answering[1])))
         level = deeper
-    return None, sorted(seen)
+    return None, seen

@@ -63,5 +63,10 @@ def bit_rows(many):
 
 def shadows_between(place, mode, held, notes):
     """The shadows under the bars between neighbours of these rising notes, the first up to the least of them."""
-    # Above all notes that came no cell holds a 1, so that the last one needs no bar.
-    return [(place, mode, under(held, bar)) for bar in notes] + [(place, mode, (0,) * len(held))]
+    return [(place, mode, bits) for bits in bits_between(held, notes)]
+
+
+def bits_between(held, notes):
+    """What is held, of these rising notes alone, under the bars between neighbours of them."""
+    # Above all notes no cell is 1, so that the last gap needs no bar.
+    return [*[under(held, bar) for bar in notes], (0,) * len(held)]

@@ -162,7 +162,10 @@ ECHO = ((), (("say", 2),), (((1, (), FIRST),), ((0, (), SECOND),)))
 
 PROGRAMS = (GREATEST, MIDDLE, PAIR, NOTHING, ECHO)
 
-# Tells the second greatest of the greatest that ever came, and forgets all at once by another deed.
+# Tells what came last, with the deeds of GREATEST.
+LAST = (("top",), GREATEST[1], (((0, (("came", 0),), None), (0, (None,), ("cell", "top"))),))
+
+# Tells the second greatest of all that ever came, and forgets all at once by another deed.
 SECONDS = (("hi", "lo"), (("push", 1), ("ask", 0), ("clear", 0)),
            (((0, (("greatest", (("cell", "hi"), FIRST)),
                   ("kth", 2, (("cell", "hi"), ("cell", "lo"), FIRST))), None),

@@ -6,7 +6,7 @@ import unittest
 from stilltold.errors import NoPair
 from stilltold.likeness import least_like, parting, table
 from stilltold.shadows import first_shadow
-from tests.helper import (ANYTHING, ECHO, GREATEST, JUDGED, NOTHING, ORDER, PAIR, PATIENT, SECONDS, TURNS, TWINS,
+from tests.helper import (ANYTHING, ECHO, GREATEST, JUDGED, LAST, NOTHING, ORDER, PAIR, PATIENT, SECONDS, TURNS, TWINS,
                           Plain, all_shadows, any_deeds, any_guard, any_program, bare_program, kept_as_is, other_deeds,
                           same_telling, turned_about, with_idle_cell, with_modes_twice)
 
@@ -130,12 +130,11 @@ class OfTwoPrograms(Likeness):
                          (((0, 0, (0, 1)), (0, 0, (1,))), ((0, 0, (1, 1)), (0, 0, (1,)))))
 
     def test_that_tell_otherwise(self):
-        last = (("top",), GREATEST[1], (((0, (("came", 0),), None), (0, (None,), ("cell", "top"))),))
-        self.go_through(GREATEST, last, most=3)
-        self.assertEqual(parting(GREATEST, (0, 0, (0,)), last, (0, 0, (0,))), (("top", 1), ("top", 0), ("ask",)))
+        self.go_through(GREATEST, LAST, most=3)
+        self.assertEqual(parting(GREATEST, (0, 0, (0,)), LAST, (0, 0, (0,))), (("top", 1), ("top", 0), ("ask",)))
         # Behind a guard that lets but one number they are like.
-        self.go_through(GREATEST, last, ((1, None), (None, 1)))
-        self.assertIsNone(parting(GREATEST, (0, 0, (0,)), last, (0, 0, (0,)), guard=((1, None), (None, 1))))
+        self.go_through(GREATEST, LAST, ((1, None), (None, 1)))
+        self.assertIsNone(parting(GREATEST, (0, 0, (0,)), LAST, (0, 0, (0,)), guard=((1, None), (None, 1))))
 
     def test_by_chance(self):
         chance = random.Random(53)
