@@ -22,6 +22,11 @@ def is_shadow(program, thing, *, guard=None):
     return is_row(bits, len(cells), len(cells)) and all([is_bit(bit) for bit in bits])
 
 
+def are_shadows(program, thing, guard):
+    """Whether it is a tuple of shadows."""
+    return isinstance(thing, tuple) and all([is_shadow(program, part, guard=guard) for part in thing])
+
+
 def first_shadow(program):
     """The shadow ahead of all deeds, the same under each bar."""
     return (0, 0, (0,) * len(program[0]))

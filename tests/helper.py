@@ -165,6 +165,13 @@ PROGRAMS = (GREATEST, MIDDLE, PAIR, NOTHING, ECHO)
 # Tells what came last, with the deeds of GREATEST.
 LAST = (("top",), GREATEST[1], (((0, (("came", 0),), None), (0, (None,), ("cell", "top"))),))
 
+# Tells for ever what came first, with the deeds of GREATEST.
+OLD = (("top",), GREATEST[1],
+       (((1, (("came", 0),), None), (0, (None,), ("none",))), ((1, (None,), None), (1, (None,), ("cell", "top")))))
+
+# A guard of GREATEST, LAST and OLD: one number is let.
+ONCE = ((1, 0), (None, 1))
+
 # Tells the second greatest of all that ever came, and forgets all at once by another deed.
 SECONDS = (("hi", "lo"), (("push", 1), ("ask", 0), ("clear", 0)),
            (((0, (("greatest", (("cell", "hi"), FIRST)),
@@ -183,6 +190,28 @@ PATIENT = (("a",), (("go", 1),),
            (((1, (FIRST,), None),), ((2, (None,), None),), ((3, (None,), None),), ((3, (None,), ("cell", "a")),)))
 
 JUDGED = PROGRAMS + (SECONDS, PATIENT)
+
+# Tells the greatest and the least of all that ever came; the first of them is both.
+BOTH_ENDS = (("hi", "lo"), (("push", 1), ("high", 0), ("low", 0)),
+             (((1, (FIRST, FIRST), None), (0, (None, None), None), (0, (None, None), None)),
+              ((1, (("greatest", (("cell", "hi"), FIRST)), ("least", (("cell", "lo"), FIRST))), None),
+               (1, (None, None), ("cell", "hi")), (1, (None, None), ("cell", "lo")))))
+
+
+def falling_out(many):
+    """A program that holds the last ones, so many, and tells what falls out."""
+    cells = tuple("abcdef"[:many])
+    held = tuple(("cell", cell) for cell in cells)
+    return (cells, (("push", 1),), (((0, (FIRST,) + held[:-1], held[-1]),),))
+
+
+def best(many):
+    """A program that holds the best ones, so many, the greatest first, and tells the last of them."""
+    cells = tuple("abcdef"[:many])
+    held = tuple(("cell", cell) for cell in cells)
+    above = ((),) + tuple((one,) for one in held)
+    becomes = tuple(("greatest", (own, ("least", higher + (FIRST,)))) for own, higher in zip(held, above))
+    return (cells, (("push", 1), ("ask", 0)), (((0, becomes, None), (0, (None,) * many, held[-1])),))
 
 
 def any_choice(chance, cells, many, depth):
@@ -448,6 +477,35 @@ def stair_by_words(plain, history):
             shadows.append(shadow)
         kept.append(bar)
     return tuple(shadows), tuple(kept[:-1])
+
+
+def rows_behind(plain, row):
+    """The shadows behind each deed that all shadows of the row let, wherever its numbers lie among the notes."""
+    notes = [(10 * at, 0, 0) for at in range(len(row) - 1)]
+    spots = [number + off for number in range(-10, 10 * len(notes), 10) for off in (2, 4, 6)]
+    found = set()
+    for called, many in plain.one[1]:
+        for numbers in itertools.product(spots, repeat=many):
+            came = [(number, 1, place) for place, number in enumerate(numbers)]
+            moves = []
+            for bar in sorted(notes + came) + [(10 ** 9, 0, 0)]:
+                deed = (called,) + tuple(int(note >= bar) for note in came)
+                shadow = row[sum(note < bar for note in notes)]
+                moves.append(plain.moves[0][shadow][plain.deeds.index(deed)])
+            if "NotLet" not in moves:
+                shadows = [plain.least_like(shadow) for answer, shadow in moves]
+                found.add(tuple(shadow for shadow, copies in itertools.groupby(shadows)))
+    return found
+
+
+def shut_by_words(plain, rows):
+    """These rows of shadows, and all to which deeds lead from them."""
+    found, left = set(rows), list(rows)
+    while left:
+        fresh = rows_behind(plain, left.pop()) - found
+        found |= fresh
+        left += fresh
+    return found
 
 
 def low_and_high(notes):

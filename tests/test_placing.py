@@ -7,15 +7,12 @@ from stilltold.errors import NoPair
 from stilltold.placing import goes_on, in_place
 from stilltold.runs import Run
 from stilltold.stairs import first_stair, stair_of, stepped
-from tests.helper import (ANYTHING, ECHO, GREATEST, HUGE, JUDGED, LAST, MIDDLE, NOTHING, ORDER, PAIR, PATIENT,
-                          SECONDS, TURNS, TWINS, Judges, Plain, any_deeds, any_guard, any_history, any_program,
-                          bare_program, end_of, goings_on, kept_as_is, low_and_high, nearly, other_deeds,
+from tests.helper import (ANYTHING, ECHO, GREATEST, HUGE, JUDGED, LAST, MIDDLE, NOTHING, OLD, ONCE, ORDER, PAIR,
+                          PATIENT, SECONDS, TURNS, TWINS, Judges, Plain, any_deeds, any_guard, any_history,
+                          any_program, bare_program, end_of, goings_on, kept_as_is, low_and_high, nearly, other_deeds,
                           same_telling, shadow_at, turned_about, whole, with_idle_cell, with_modes_twice)
 
 NUMBERS = (-HUGE, -2, -1, 0, 1, 1, 1, 2, HUGE)
-# Tells for ever what came first, with GREATEST's deeds.
-OLD = (("top",), GREATEST[1],
-       (((1, (("came", 0),), None), (0, (None,), ("none",))), ((1, (None,), None), (1, (None,), ("cell", "top")))))
 # Does no more than tell the second greatest as long as nothing is pushed; it has one cell.
 HALF = (("lo",), SECONDS[1],
         (((0, (None,), None), (0, (None,), ("cell", "lo")), (0, (("none",),), None)),))
@@ -132,10 +129,9 @@ class ByHand(Place):
         self.assertIsNone(in_place(GREATEST, stair, OLD))
         self.assertIsNone(in_place(LAST, stair_of(LAST, (("top", 5),)), GREATEST))
         # Behind the last number that is let all three tell the same.
-        once = ((1, 0), (None, 1))
         for program, other in itertools.product((GREATEST, LAST, OLD), repeat=2):
-            stair = stair_of(program, (("top", 5),), guard=once)
-            told = in_place(program, stair, other, guard=once)
+            stair = stair_of(program, (("top", 5),), guard=ONCE)
+            told = in_place(program, stair, other, guard=ONCE)
             self.assertEqual(told, (1 if other == OLD else 0, ((5, 0, 0),)))
 
     def test_what_is_let_from_here(self):
