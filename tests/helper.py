@@ -4,6 +4,8 @@ import copy
 import itertools
 import re
 
+from stilltold.showing import show_program
+
 HUGE = int("9" * 60)
 
 
@@ -198,6 +200,16 @@ BOTH_ENDS = (("hi", "lo"), (("push", 1), ("high", 0), ("low", 0)),
                (1, (None, None), ("cell", "hi")), (1, (None, None), ("cell", "lo")))))
 
 
+SIX = tuple(("cell", cell) for cell in "abcdef")
+
+# All orders of six cells, in two modes: it has more than 2000 stands.
+WIDE = (tuple("abcdef"), (("one", 1), ("two", 2), ("first", 0), ("swap", 0)),
+        (((0, (FIRST,) + SIX[:5], None), (0, (FIRST, SECOND) + SIX[2:], None),
+          (0, SIX[1:] + (("none",),), SIX[0]), (1, SIX[1:] + SIX[:1], None)),
+         ((1, (None,) * 6, ("none",)), (0, (None,) * 6, None), (0, (None,) * 6, None),
+          (1, (SIX[1], SIX[0]) + SIX[2:], None))))
+
+
 def falling_out(many):
     """A program that holds the last ones, so many, and tells what falls out."""
     cells = tuple("abcdef"[:many])
@@ -222,6 +234,15 @@ def any_choice(chance, cells, many, depth):
     parts = tuple(any_choice(chance, cells, many, depth - 1) for at in range(chance.randint(1, 3)))
     word = chance.choice(("kth", "greatest", "least"))
     return (word, chance.randint(1, len(parts)), parts) if word == "kth" else (word, parts)
+
+
+def choice_of_size(size, leaf):
+    """A choice of this size, with just one such leaf."""
+    if size == 1:
+        return leaf
+    parts = min(5, size - 1)
+    sizes = [(size - 1) // parts + (at < (size - 1) % parts) for at in range(parts)]
+    return ("greatest", tuple(choice_of_size(part, leaf if at == 0 else ("none",)) for at, part in enumerate(sizes)))
 
 
 def any_deeds(chance, most=4):
@@ -369,6 +390,11 @@ def judged_shadow(program, thing, places):
 
 def bit_deeds_by_product(program):
     return sorted((called,) + bits for called, many in program[1] for bits in itertools.product((0, 1), repeat=many))
+
+
+def line_of(program):
+    """A program's text as it stands in a line that is said to a desk."""
+    return " / ".join(show_program(program).split("\n"))
 
 
 class Plain:

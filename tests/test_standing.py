@@ -10,8 +10,8 @@ from stilltold.runs import is_history
 from stilltold.stairs import first_stair, stair_of
 from stilltold.standing import MOST, leads, most_held, stands
 from tests.helper import (ANYTHING, BOTH_ENDS, ECHO, FOREIGN, GREATEST, JUDGED, MIDDLE, NOTHING, ONCE, ORDER, PAIR,
-                          PATIENT, SECONDS, TURNS, TWINS, Plain, any_deeds, any_guard, any_program, best, falling_out,
-                          goings_on, kept_as_is, nearly, same_telling, shut_by_words, stair_by_words)
+                          PATIENT, SECONDS, TURNS, TWINS, WIDE, Plain, any_deeds, any_guard, any_program, best,
+                          falling_out, goings_on, kept_as_is, nearly, same_telling, shut_by_words, stair_by_words)
 
 
 class Stands(unittest.TestCase):
@@ -203,18 +203,10 @@ class Refused(unittest.TestCase):
     def test_the_most_that_is_left_out(self):
         self.assertEqual(MOST, 2000)
         self.assertIs(type(standing.MOST), int)
-        # All orders of six cells, in two modes: more than 2000 stands.
-        cells = [("cell", name) for name in "abcdef"]
-        wide = (tuple("abcdef"), (("one", 1), ("two", 2), ("first", 0), ("swap", 0)),
-                (((0, (("came", 0),) + tuple(cells[:5]), None),
-                  (0, (("came", 0), ("came", 1)) + tuple(cells[2:]), None),
-                  (0, tuple(cells[1:]) + (("none",),), cells[0]), (1, tuple(cells[1:]) + (cells[0],), None)),
-                 ((1, (None,) * 6, ("none",)), (0, (None,) * 6, None), (0, (None,) * 6, None),
-                  (1, (cells[1], cells[0]) + tuple(cells[2:]), None))))
         with self.assertRaises(TooMany) as caught:
-            stands(wide)
+            stands(WIDE)
         self.assertEqual(caught.exception.most, 2000)
-        for function, given in ((leads, (wide, None)), (most_held, (wide,))):
+        for function, given in ((leads, (WIDE, None)), (most_held, (WIDE,))):
             with self.assertRaises(TooMany) as caught:
                 function(*given)
             self.assertEqual(caught.exception.most, 2000)
